@@ -13,13 +13,13 @@ import (
 func TestGood(t *testing.T) {
 	for _, x := range grove() {
 		if !mayBe(x) {
-			t.Fatalf("%v", x)
+			t.Fatal(shown(x))
 		}
 		wantGood(t, x, true)
 	}
 	for _, x := range wild() {
 		if mayBe(x) {
-			t.Fatalf("%v", x)
+			t.Fatal(shown(x))
 		}
 		wantGood(t, x, false)
 	}

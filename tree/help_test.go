@@ -1,6 +1,7 @@
 package tree_test
 
 import (
+	"fmt"
 	"math"
 	"math/rand"
 	"regexp"
@@ -131,11 +132,19 @@ func above(root api.Node, children ...api.Tree) api.Tree {
 	return append(out, root)
 }
 
+// shown tells a tree's first nodes as text, so that what fails tells no more than can be read.
+func shown(x api.Tree) string {
+	if most := 10; len(x) > most {
+		return fmt.Sprintf("%.100v and %d more", x[:most], len(x)-most)
+	}
+	return fmt.Sprintf("%.100v", x)
+}
+
 // wantTree asks for this tree, and for ok.
 func wantTree(t *testing.T, what string, got api.Tree, ok bool, want api.Tree) {
 	t.Helper()
 	if !ok || !slices.Equal(got, want) {
-		t.Errorf("%s = %.300v, %v, want %.300v", what, got, ok, want)
+		t.Errorf("%s = %s, %v, want %s", what, shown(got), ok, shown(want))
 	}
 }
 
@@ -143,11 +152,11 @@ func wantTree(t *testing.T, what string, got api.Tree, ok bool, want api.Tree) {
 func wantNone(t *testing.T, what string, got api.Tree, ok bool) {
 	t.Helper()
 	if ok || len(got) != 0 {
-		t.Errorf("%s = %.300v, %v, want none", what, got, ok)
+		t.Errorf("%s = %s, %v, want none", what, shown(got), ok)
 	}
 }
 
-// wantGood asks whether x may be, and what goes with it: its depth, and that it is the same as itself.
+// wantGood asks whether x may be, and its depth; it is the same as itself in either case.
 func wantGood(t *testing.T, x api.Tree, want bool) {
 	t.Helper()
 	deep := 0
@@ -155,13 +164,13 @@ func wantGood(t *testing.T, x api.Tree, want bool) {
 		deep = depth(x, len(x)-1)
 	}
 	if got := tree.Good(x); got != want {
-		t.Errorf("Good(%.300v), of %d nodes, = %v", x, len(x), got)
+		t.Errorf("Good(%s) = %v", shown(x), got)
 	}
 	if got := tree.Deep(x); got != deep {
-		t.Errorf("Deep(%.300v), of %d nodes, = %d, want %d", x, len(x), got, deep)
+		t.Errorf("Deep(%s) = %d, want %d", shown(x), got, deep)
 	}
-	if got := tree.Same(x, x); got != want {
-		t.Errorf("Same(%.300v) and itself, of %d nodes, = %v", x, len(x), got)
+	if !tree.Same(x, x) {
+		t.Errorf("Same(%s) and itself = false", shown(x))
 	}
 }
 
@@ -170,7 +179,7 @@ func made(t *testing.T) func(x api.Tree, ok bool) api.Tree {
 	return func(x api.Tree, ok bool) api.Tree {
 		t.Helper()
 		if !ok {
-			t.Fatalf("told %v, false", x)
+			t.Fatalf("told %s, false", shown(x))
 		}
 		return x
 	}

@@ -14,7 +14,7 @@ import (
 func wantSame(t *testing.T, a, b api.Tree, want bool) {
 	t.Helper()
 	if tree.Same(a, b) != want || tree.Same(b, a) != want {
-		t.Errorf("Same(%.200v, %.200v) = %v, %v", a, b, tree.Same(a, b), tree.Same(b, a))
+		t.Errorf("Same(%s, %s) = %v, %v", shown(a), shown(b), tree.Same(a, b), tree.Same(b, a))
 	}
 }
 
@@ -30,10 +30,83 @@ func TestSame(t *testing.T) {
 			wantSame(t, a, bad, false)
 		}
 	}
-	for _, a := range wild() {
-		for _, b := range wild() {
-			wantSame(t, a, b, false)
+}
+
+// unlike tells copies of x that each differ from it in one field of the node at i, but not in At.
+func unlike(x api.Tree, i int) []api.Tree {
+	return []api.Tree{
+		changed(x, i, func(n *api.Node) { n.Kind++ }),
+		changed(x, i, func(n *api.Node) { n.A++ }),
+		changed(x, i, func(n *api.Node) { n.B++ }),
+		changed(x, i, func(n *api.Node) { n.N++ }),
+		changed(x, i, func(n *api.Node) { n.Text += "0" }),
+		changed(x, i, func(n *api.Node) { n.Unit += "0" }),
+	}
+}
+
+// wantSameButForOneField asks whether x is the same with any At of the node at i, and not with any other field changed.
+func wantSameButForOneField(t *testing.T, x api.Tree, i int) {
+	t.Helper()
+	for _, at := range []int{math.MinInt, -1, 1, math.MaxInt} {
+		wantSame(t, x, changed(x, i, func(n *api.Node) { n.At = at }), true)
+	}
+	for _, y := range unlike(x, i) {
+		wantSame(t, x, y, false)
+	}
+}
+
+// P14.1: lists of nodes that may not be are the same if they are alike in all but At, as trees are.
+func TestSameOfWhatMayNotBe(t *testing.T) {
+	all := wild()
+	for i, a := range all {
+		for j, b := range all {
+			wantSame(t, a, kept(b), i == j || len(a)+len(b) == 0)
 		}
+	}
+	for _, a := range all {
+		for i := range min(len(a), 5) {
+			wantSameButForOneField(t, a, i)
+		}
+	}
+	wantSame(t, nil, api.Tree{}, true)
+	wantSame(t, nil, api.Tree{{}}, false)
+	wantSame(t, nil, grove()[0], false)
+}
+
+// placeless tells a copy of x whose nodes stand nowhere in a text.
+func placeless(x api.Tree) api.Tree {
+	out := kept(x)
+	for i := range out {
+		out[i].At = 0
+	}
+	return out
+}
+
+// P14.1: Same of every two lists of up to two of these nodes, most of which may not be.
+func TestSameOfShortLists(t *testing.T) {
+	nodes := api.Tree{{}, {At: 3}, {Kind: 9, N: 1}, lit("1", ""), lit("x", "]"), ref("x"), ref(""), neg(0), neg(-1), pow(0, 65), join(api.Add, 0, 1), {Kind: api.Neg, A: 0, At: -1}}
+	lists := []api.Tree{nil}
+	for _, a := range nodes {
+		lists = append(lists, api.Tree{a})
+		for _, b := range nodes {
+			lists = append(lists, api.Tree{a, b})
+		}
+	}
+	for _, a := range lists {
+		for _, b := range lists {
+			wantSame(t, a, b, slices.Equal(placeless(a), placeless(b)))
+		}
+	}
+}
+
+// P14.1: lists of very many nodes are the same but for their last one's fields, and as long as each other.
+func TestSameOfManyNodes(t *testing.T) {
+	for _, nodes := range []int{api.MaxNodes, api.MaxNodes + 1, 100000} {
+		x := negs(nodes)
+		wantSame(t, x, negs(nodes), true)
+		wantSame(t, x, negs(nodes+1), false)
+		wantSameButForOneField(t, x, nodes-1)
+		wantSameButForOneField(t, make(api.Tree, nodes), nodes-1)
 	}
 }
 
@@ -41,19 +114,7 @@ func TestSame(t *testing.T) {
 func TestSameButForOneField(t *testing.T) {
 	x := api.Tree{lit("1", "m"), ref("x"), join(api.Add, 0, 1), pow(2, 3), ref("y"), join(api.Div, 3, 4)}
 	for i := range x {
-		for _, at := range []int{math.MinInt, -1, 1, math.MaxInt} {
-			wantSame(t, x, changed(x, i, func(n *api.Node) { n.At = at }), true)
-		}
-		for _, change := range []func(n *api.Node){
-			func(n *api.Node) { n.Kind++ },
-			func(n *api.Node) { n.A++ },
-			func(n *api.Node) { n.B++ },
-			func(n *api.Node) { n.N++ },
-			func(n *api.Node) { n.Text += "0" },
-			func(n *api.Node) { n.Unit += "0" },
-		} {
-			wantSame(t, x, changed(x, i, change), false)
-		}
+		wantSameButForOneField(t, x, i)
 	}
 	wantSame(t, api.Tree{lit("1", "")}, api.Tree{lit("1.0", "")}, false)
 	wantSame(t, api.Tree{lit("1", "")}, api.Tree{lit("1", "1")}, false)
@@ -69,7 +130,6 @@ func TestSameOfOtherLengths(t *testing.T) {
 	}
 	wantSame(t, leftChain(1000), leftChain(1000), true)
 	wantSame(t, leftChain(1000), leftChain(999), false)
-	wantSame(t, negs(2001), negs(2001), false)
 }
 
 // P14.1: the depth of each kind, and of chains either way.
@@ -87,7 +147,7 @@ func TestDeep(t *testing.T) {
 		{negs(2000), 2000}, {leftChain(1000), 1000}, {rightChain(1000), 1000}, {negs(2001), 0}, {nil, 0}, {api.Tree{{}}, 0},
 	} {
 		if got := tree.Deep(c.x); got != c.want {
-			t.Errorf("Deep(%.200v) = %d, want %d", c.x, got, c.want)
+			t.Errorf("Deep(%s) = %d, want %d", shown(c.x), got, c.want)
 		}
 	}
 }
@@ -110,11 +170,11 @@ func TestNodesOfChildren(t *testing.T) {
 		for _, x := range []api.Tree{both, below, power} {
 			wantGood(t, x, true)
 			if !slices.Equal(x[:len(a)], a) || x[len(x)-1].At != 0 {
-				t.Errorf("%v of %v", x, a)
+				t.Errorf("%s of %s", shown(x), shown(a))
 			}
 		}
 		if tree.Deep(both) != 1+max(tree.Deep(a), tree.Deep(b)) || tree.Deep(below) != 1+tree.Deep(a) || tree.Deep(power) != 1+tree.Deep(a) {
-			t.Errorf("depths of %v and %v", a, b)
+			t.Errorf("depths of %s and %s", shown(a), shown(b))
 		}
 	}
 }
@@ -128,7 +188,7 @@ func TestMadeAgain(t *testing.T) {
 		wantSame(t, x, again, true)
 		for i, n := range again {
 			if n.At != 0 {
-				t.Errorf("%v has a place at %d", again, i)
+				t.Errorf("%s has a place at %d", shown(again), i)
 			}
 		}
 	}

@@ -45,7 +45,7 @@ func TestJoin(t *testing.T) {
 		for _, b := range grove() {
 			for _, kind := range kinds {
 				x, ok := tree.Join(kind, a, b)
-				what := fmt.Sprintf("Join(%d, %.100v, %.100v)", kind, a, b)
+				what := fmt.Sprintf("Join(%d, %s, %s)", kind, shown(a), shown(b))
 				if slices.Contains(joins(), kind) {
 					wantTree(t, what, x, ok, above(join(kind, 0, 0), a, b))
 				} else {
@@ -74,11 +74,11 @@ func TestJoinOfNoTree(t *testing.T) {
 func TestNeg(t *testing.T) {
 	for _, a := range grove() {
 		x, ok := tree.Neg(a)
-		wantTree(t, fmt.Sprintf("Neg(%.100v)", a), x, ok, above(neg(0), a))
+		wantTree(t, fmt.Sprintf("Neg(%s)", shown(a)), x, ok, above(neg(0), a))
 	}
 	for _, bad := range wild() {
 		x, ok := tree.Neg(bad)
-		wantNone(t, fmt.Sprintf("Neg(%.100v)", bad), x, ok)
+		wantNone(t, fmt.Sprintf("Neg(%s)", shown(bad)), x, ok)
 	}
 }
 
@@ -87,17 +87,17 @@ func TestPow(t *testing.T) {
 	for _, a := range grove() {
 		for n := -64; n <= 64; n++ {
 			x, ok := tree.Pow(a, n)
-			wantTree(t, fmt.Sprintf("Pow(%.100v, %d)", a, n), x, ok, above(pow(0, n), a))
+			wantTree(t, fmt.Sprintf("Pow(%s, %d)", shown(a), n), x, ok, above(pow(0, n), a))
 		}
 		for _, n := range []int{-65, 65, -66, 66, -1000, 1000, math.MinInt32, math.MaxInt32, math.MinInt, math.MinInt + 1, math.MinInt + 64, math.MaxInt - 64, math.MaxInt, 1 << 32, 1 << 62, -1 << 32} {
 			x, ok := tree.Pow(a, n)
-			wantNone(t, fmt.Sprintf("Pow(%.100v, %d)", a, n), x, ok)
+			wantNone(t, fmt.Sprintf("Pow(%s, %d)", shown(a), n), x, ok)
 		}
 	}
 	for _, bad := range wild() {
 		for n := -65; n <= 65; n++ {
 			x, ok := tree.Pow(bad, n)
-			wantNone(t, fmt.Sprintf("Pow(%.100v, %d)", bad, n), x, ok)
+			wantNone(t, fmt.Sprintf("Pow(%s, %d)", shown(bad), n), x, ok)
 		}
 	}
 }

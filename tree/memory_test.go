@@ -54,20 +54,20 @@ func TestTreesShareNoMemory(t *testing.T) {
 			tree.Deep(a)
 			tree.Same(a, b)
 			if !slices.Equal(aRoom, wantA) || !slices.Equal(bRoom, wantB) {
-				t.Errorf("%v or %v was changed", wantA, wantB)
+				t.Errorf("%s or %s was changed", shown(wantA), shown(wantB))
 			}
 			scribble(aRoom)
 			scribble(bRoom)
 			for j, x := range told {
 				if !slices.Equal(x, wants[j]) {
-					t.Errorf("%v became %v", wants[j], x)
+					t.Errorf("%s became %s", shown(wants[j]), shown(x))
 				}
 				scribble(x)
 			}
 			again := calls(all[i], other)
 			for j, x := range again {
 				if !slices.Equal(x, wants[j]) {
-					t.Errorf("told %v, and then %v", wants[j], x)
+					t.Errorf("told %s, and then %s", shown(wants[j]), shown(x))
 				}
 			}
 		}
@@ -111,7 +111,7 @@ func TestTextsShareNoMemory(t *testing.T) {
 	given := api.Tree{lit(number, unit), ref(name)}
 	for _, y := range []api.Tree{a, b, x} {
 		if textsOverlap(y, given) {
-			t.Errorf("%v shares the memory of what it was made of", y)
+			t.Errorf("%s shares the memory of what it was made of", shown(y))
 		}
 	}
 	if textsOverlap(a, b) {
@@ -120,11 +120,11 @@ func TestTextsShareNoMemory(t *testing.T) {
 	told := calls(a, x)
 	for i, y := range told {
 		if textsOverlap(y, a) || textsOverlap(y, x) {
-			t.Errorf("%v shares the memory of what it was made of", y)
+			t.Errorf("%s shares the memory of what it was made of", shown(y))
 		}
 		for j, z := range told {
 			if i != j && textsOverlap(y, z) {
-				t.Errorf("%v and %v share memory", y, z)
+				t.Errorf("%s and %s share memory", shown(y), shown(z))
 			}
 		}
 	}
